@@ -1,0 +1,1 @@
+"""Queues that are kept in a table."""
