@@ -1,0 +1,80 @@
+"""The interface: its names, their arguments, and the files in which they are defined."""
+
+import ast
+import importlib
+import inspect
+import pathlib
+import unittest
+
+PACKAGE = pathlib.Path(__file__).resolve().parent.parent / "rowqueue"
+
+FUNCTIONS = {
+    "kinds": ["is_integer(thing)", "is_name(thing)"],
+    "plans": ["is_plan(thing)", "show_plan(plan)", "read_plan(text)", "place_of(plan, word)"],
+    "settings": ["read_setting(text)"],
+    "choice": ["ordered(rows, order)", "batch(rows, setting, view, many)", "chosen(rows, setting, view)"],
+    "machine": [
+        "start(scene)",
+        "step(scene, state, deed)",
+        "moments(scene, weaving)",
+        "play(scene, weaving)",
+        "chosen(scene, state)",
+        "able(scene, state, w)",
+        "is_state(scene, thing)",
+        "is_weaving(scene, thing)",
+    ],
+}
+CLASSES = {
+    "settings": {
+        "Setting": ["__init__(self, lines=())", "plan(self)", "lines(self)", "changed(self, *lines)"]
+        + ["apart(self, other)"],
+    },
+    "scenes": {
+        "Scene": ["__init__(self, setting, rows, *, workers=2, may=(), prompt=False)", "rows(self)", "deeds(self)"],
+    },
+}
+METHODS = {
+    "Setting": ["__eq__", "__len__", "__contains__", "__repr__", "order", "dead", "counted", "skip", "fence"]
+    + ["margin", "slow", "hold", "tries", "once", "pause"],
+    "Scene": ["__eq__", "setting", "workers", "may", "prompt"],
+}
+ERRORS = ["Wrong(place)", "BadLine(at)", "BadRow(at)", "Past(now)", "Known(name)", "NoRow(name)", "NoOrigin(name)"]
+ERRORS += ["Stale(name)", "TooMany(limit)", "NoWeaving(number)", "Stopped(at)"]
+
+
+def defined_in(module):
+    tree = ast.parse((PACKAGE / f"{module}.py").read_text())
+    return [node.name for node in tree.body if isinstance(node, (ast.FunctionDef, ast.ClassDef))]
+
+
+class Interface(unittest.TestCase):
+    def test_functions(self):
+        for module, signatures in FUNCTIONS.items():
+            found = importlib.import_module(f"rowqueue.{module}")
+            for signature in signatures:
+                name = signature.split("(")[0]
+                self.assertEqual(name + str(inspect.signature(getattr(found, name))), signature)
+                self.assertIn(name, defined_in(module))
+
+    def test_classes(self):
+        for module, classes in CLASSES.items():
+            found = importlib.import_module(f"rowqueue.{module}")
+            for name, signatures in classes.items():
+                self.assertIn(name, defined_in(module))
+                own = vars(getattr(found, name))
+                for signature in signatures:
+                    method = signature.split("(")[0]
+                    self.assertEqual(method + str(inspect.signature(own[method])), signature)
+                for method in METHODS[name]:
+                    self.assertIn(method, own)
+
+    def test_errors(self):
+        errors = importlib.import_module("rowqueue.errors")
+        for signature in ERRORS:
+            name = signature.split("(")[0]
+            self.assertEqual(name + str(inspect.signature(getattr(errors, name))), signature)
+            self.assertIn(name, defined_in("errors"))
+
+
+if __name__ == "__main__":
+    unittest.main()
