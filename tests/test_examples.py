@@ -1,4 +1,4 @@
-"""The examples of [23], [31] and [44], as they stand."""
+"""The examples of [23], [31], [44], [53], [61], [63] and [70], as they stand."""
 
 import unittest
 
@@ -42,6 +42,47 @@ MACHINE = """
 ((('held', 2, 0, 2, 0),), ((), (2, 0, True, 0, 0)))
 """
 
+QUEUE = """
+>>> from rowqueue.queue import Queue
+>>> from rowqueue.settings import Setting
+>>> queue = Queue(Setting(['hold 3', 'tries 2', 'pause 3']))
+>>> first = queue.do(10, [('put', 'a', 'k', 0, 0, None), ('put', 'b', 'k', 5, 0, None), ('take', 1)])
+>>> [first[2], queue.row('a'), queue.free(8), queue.next_time()]
+[[('a', 1)], ('held', 13, 1, 1, 0), ['b'], 13]
+>>> second = queue.do(20, [('take', 2)])
+>>> [second, queue.row('a'), queue.do(30, [('take', 1)]), queue.row('a')]
+[[[('a', 2), ('b', 1)]], ('held', 23, 2, 2, 0), [[('b', 2)]], ('dead', None, 2, 2, 0)]
+"""
+
+# "In the examples from here on, Scene and Setting are imported as in [44], and rows is [('a', 0, 'here')]."
+FROM_HERE_ON = """
+>>> from rowqueue.scenes import Scene
+>>> from rowqueue.settings import Setting
+>>> rows = [('a', 0, 'here')]
+"""
+
+SAFETY = """
+>>> from rowqueue.safety import check
+>>> check(Scene(Setting(), rows), 'twice')
+('breaks', [('part', 0), ('part', 0), ('tick',), ('tick',), ('part', 1), ('part', 1)])
+>>> [check(Scene(Setting(), rows), 'two'), check(Scene(Setting(['plan take effect+finish']), rows), 'twice')[0]]
+[('breaks', [('part', 0), ('tick',), ('tick',), ('part', 1)]), 'holds']
+"""
+
+FORMS = """
+>>> from rowqueue.forms import shortest
+>>> [shortest(Scene(Setting(), rows), 'twice'), shortest(Scene(Setting(['plan take check+effect finish']), rows), 'two'), shortest(Scene(Setting(['plan take check+effect finish', 'slow 1']), rows), 'two')]
+[6, None, 5]
+>>> [shortest(Scene(Setting(['plan take check effect finish']), rows), 'two'), shortest(Scene(Setting(['plan take effect+finish', 'fence no']), rows), 'twice')]
+[5, 6]
+"""
+
+COMING = """
+>>> from rowqueue.coming import can_come
+>>> can_come(Scene(Setting(['hold ever']), rows, workers=1, may=('crash',)), 'settled')
+('breaks', [('part', 0), ('crash', 0)], [((('held', 0, 0, 0, 0),), ((),))])
+"""
+
 
 class Examples(unittest.TestCase):
     def test_settings(self):
@@ -53,6 +94,13 @@ class Examples(unittest.TestCase):
 
     def test_machine(self):
         self.assertEqual(failures_of(MACHINE), [])
+
+    def test_queue(self):
+        self.assertEqual(failures_of(QUEUE), [])
+
+    def test_the_examples_with_one_row(self):
+        for text in [SAFETY, FORMS, COMING]:
+            self.assertEqual(failures_of(FROM_HERE_ON.rstrip() + text), [])
 
     def test_a_failure_is_seen(self):
         self.assertEqual(failures_of(">>> 1 + 1\n3\n"), [(">>> 1 + 1", "3", "2")])

@@ -23,6 +23,19 @@ FUNCTIONS = {
         "is_state(scene, thing)",
         "is_weaving(scene, thing)",
     ],
+    "safety": [
+        "is_bad(scene, promise, state)",
+        "is_closed(scene, promise, thing)",
+        "is_breach(scene, promise, thing)",
+        "reached(scene, *, most=1000)",
+        "check(scene, promise, *, most=1000)",
+    ],
+    "forms": ["shortest(scene, promise)", "takes(scene)", "breach(scene, promise)"],
+    "coming": [
+        "can_come(scene, wish, *, most=1000)",
+        "is_ranked(scene, wish, thing)",
+        "is_trap(scene, wish, weaving, thing)",
+    ],
 }
 CLASSES = {
     "settings": {
@@ -32,11 +45,16 @@ CLASSES = {
     "scenes": {
         "Scene": ["__init__(self, setting, rows, *, workers=2, may=(), prompt=False)", "rows(self)", "deeds(self)"],
     },
+    "queue": {
+        "Queue": ["__init__(self, setting)", "do(self, now, deeds)", "time(self)", "names(self)", "free(self, many)"]
+        + ["row(self, name)", "next_time(self)", "copied(self)"],
+    },
 }
 METHODS = {
     "Setting": ["__eq__", "__len__", "__contains__", "__repr__", "order", "dead", "counted", "skip", "fence"]
     + ["margin", "slow", "hold", "tries", "once", "pause"],
     "Scene": ["__eq__", "setting", "workers", "may", "prompt"],
+    "Queue": ["__len__", "__contains__"],
 }
 ERRORS = ["Wrong(place)", "BadLine(at)", "BadRow(at)", "Past(now)", "Known(name)", "NoRow(name)", "NoOrigin(name)"]
 ERRORS += ["Stale(name)", "TooMany(limit)", "NoWeaving(number)", "Stopped(at)"]
