@@ -160,7 +160,7 @@ def do_put(bench, deed):
 
 
 def do_tick(bench, deed):
-    if bench.scene.prompt and _is_awaited(bench):
+    if is_held_up(bench):
         return ()
     answer = []
     for r in range(len(bench.table)):
@@ -175,8 +175,10 @@ def do_tick(bench, deed):
     return tuple(answer)
 
 
-def _is_awaited(bench):
-    """Return whether a prompt scene has something to do before time may go on."""
+def is_held_up(bench):
+    """Return whether a tick is held up: a prompt scene has something to do before time may go on."""
+    if not bench.scene.prompt:
+        return False
     if any([hand != IDLE and not hand[2] for hand in bench.crew]):
         return True
     return IDLE in bench.crew and free_row(bench.scene, bench.table) is not None

@@ -1,6 +1,6 @@
 """The place where a deed is done: a state whose rows and workers can be exchanged."""
 
-from rowqueue.choice import chosen
+from rowqueue.choice import chosen, is_barred
 
 IDLE = ()
 WORDS_OF_PLACES = {"yet": "away", "held": "busy", "done": "away", "dead": "dead"}
@@ -9,6 +9,12 @@ WORDS_OF_PLACES = {"yet": "away", "held": "busy", "done": "away", "dead": "dead"
 def free_row(scene, rows):
     """Return the row that a take takes from the rows of a state, or None."""
     return chosen(scene.rows(), scene.setting, [_word_of(row) for row in rows])
+
+
+def is_free(scene, rows, r):
+    """Return whether a row is free among the rows of a state."""
+    view = [_word_of(row) for row in rows]
+    return view[r] == "free" and not is_barred(scene.rows(), scene.setting, view, r)
 
 
 def _word_of(row):

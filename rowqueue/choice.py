@@ -36,6 +36,12 @@ def _bars(setting, word):
     return word in OPEN_WORDS or (word == "dead" and setting.dead == "closes")
 
 
+def is_barred(rows, setting, view, at):
+    """Return whether an earlier row of its key bars a row."""
+    key = rows[at][0]
+    return any([rows[k][0] == key and _bars(setting, view[k]) for k in range(at)])
+
+
 def chosen(rows, setting, view):
     """Return the row that a take of one row takes, or None."""
     taken = batch(rows, setting, view, 1)

@@ -80,10 +80,10 @@ def _is_ranked_state(scene, thing):
 
 def _is_rank(scene, wish, ranks, state, deeds):
     """Return whether a state has its number among the numbers of the states."""
-    number = ranks[state]
-    if _meets(wish, state) or number == 0:
-        return _meets(wish, state) and number == 0
-    return min([ranks[step(scene, state, deed)[0]] for deed in deeds]) == number - 1
+    if _meets(wish, state):
+        return ranks[state] == 0
+    # No other state can have 0: from it the numbers would have to go on below 0 without an end.
+    return min([ranks[step(scene, state, deed)[0]] for deed in deeds]) == ranks[state] - 1
 
 
 def is_trap(scene, wish, weaving, thing):

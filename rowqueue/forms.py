@@ -143,7 +143,7 @@ def _two(scene):
     lag = _lag_to_outlast(scene)
     if lag <= rules.slack:
         found.append(_parts(0, 1) + _slows(0, lag) + wait)
-    if check < effect and (finish > effect or check < finish):
+    if check < min(effect, finish):
         found.append(_parts(0, 1 + check) + wait)
     return found
 

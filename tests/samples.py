@@ -28,13 +28,13 @@ def rows_by_lot(chance, most=4):
     return rows
 
 
-def scene_by_lot(chance, most=4):
+def scene_by_lot(chance, most=4, prompts=0.3):
     """A scene and the oracle of the same scene."""
     lines = lines_by_lot(chance)
     rows = rows_by_lot(chance, most)
     workers = chance.randint(1, 3)
     may = tuple(word for word in ACCIDENTS if chance.random() < 0.6)
-    prompt = chance.random() < 0.3
+    prompt = chance.random() < prompts
     scene = Scene(Setting(lines), rows, workers=workers, may=may, prompt=prompt)
     return scene, Oracle(lines, rows, workers, may, prompt)
 

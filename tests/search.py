@@ -7,7 +7,10 @@ import collections
 import functools
 import random
 
-from tests.samples import scene_by_lot
+from rowqueue.scenes import Scene
+from rowqueue.settings import Setting
+from tests.oracle import Oracle
+from tests.samples import rows_by_lot, scene_by_lot
 
 QUIET = ("part", "put", "slow", "tick")
 
@@ -51,14 +54,35 @@ class Search:
 
 
 @functools.cache
-def small_scenes(seed, many, limit=250, most=2):
+def small_scenes(seed, many, limit=250, most=2, prompts=0.3):
     """Tuples of a scene with few reached states and its search, drawn by lot."""
     chance = random.Random(seed)
     found = []
     while len(found) < many:
-        scene, oracle = scene_by_lot(chance, most)
+        scene, oracle = scene_by_lot(chance, most, prompts)
         try:
             found.append((scene, Search(oracle, scene.deeds(), limit)))
+        except Large:
+            continue
+    return found
+
+
+@functools.cache
+def gap_scenes(seed, many, limit=150):
+    """Scenes in which a row often has a later try behind its first effect, and only so many ones."""
+    chance = random.Random(seed)
+    found = []
+    while len(found) < many:
+        lines = [f"hold {chance.randint(1, 3)}", f"tries {chance.randint(2, 3)}"]
+        for word, values in [("pause", "0012"), ("once", ["no", "no", "1", "3", "ever"]), ("order", ["oldest", "key"])]:
+            lines.append(f"{word} {chance.choice(values)}")
+        plans = ["effect finish", "check effect finish", "effect follow finish", "effect check finish"]
+        lines.append(f"plan take {chance.choice(plans)}")
+        may = tuple(word for word in ("crash", "fail") if chance.random() < 0.4)
+        rows, workers = rows_by_lot(chance, 2), chance.choice([1, 1, 2])
+        scene = Scene(Setting(lines), rows, workers=workers, may=may, prompt=True)
+        try:
+            found.append((scene, Search(Oracle(lines, rows, workers, may, True), scene.deeds(), limit)))
         except Large:
             continue
     return found

@@ -1,4 +1,4 @@
-"""The examples of [23], [31], [44], [53], [61], [63] and [70], as they stand."""
+"""The examples of the document from [23] to [83], as they stand."""
 
 import unittest
 
@@ -83,6 +83,35 @@ COMING = """
 ('breaks', [('part', 0), ('crash', 0)], [((('held', 0, 0, 0, 0),), ((),))])
 """
 
+BOUNDS = """
+>>> from rowqueue.bounds import at_most
+>>> one = Scene(Setting(['hold 1', 'tries 2']), rows, workers=1)
+>>> at_most(one, ('takes', 0))[:2]
+('most', 2)
+"""
+
+MEMORY = """
+>>> from rowqueue.memory import least_once
+>>> least_once(Scene(Setting(['tries 2']), rows, workers=1, prompt=True), 0)
+5
+"""
+
+ALIKE = """
+>>> from rowqueue.alike import compare, deeds_of, least
+>>> one = Scene(Setting(['hold ever']), rows, workers=1)
+>>> least(one, deeds_of(one, one))
+[[(('take 0',), 1), ((), 0)], [(('effect 0',), 2), ((), 1)], [(('finish 0',), 3), ((), 2)], [(('nothing',), 3), ((), 3)]]
+>>> compare(Scene(Setting(['hold 1']), rows), Scene(Setting(['hold 1', 'fence no']), rows))
+('parted', [('part', 0), ('part', 0), ('tick',), ('part', 0)], (('stale',), ('finish 0',)))
+"""
+
+CHANGES = """
+>>> from rowqueue.changes import choices, least_change
+>>> offers = ['once ever', 'plan take effect+finish', 'once 3']
+>>> [choices(offers), least_change(Scene(Setting(), rows), offers, ['twice'])[1]]
+[[[], [0], [1], [2], [0, 1], [1, 2]], [0]]
+"""
+
 
 class Examples(unittest.TestCase):
     def test_settings(self):
@@ -99,7 +128,7 @@ class Examples(unittest.TestCase):
         self.assertEqual(failures_of(QUEUE), [])
 
     def test_the_examples_with_one_row(self):
-        for text in [SAFETY, FORMS, COMING]:
+        for text in [SAFETY, FORMS, COMING, BOUNDS, MEMORY, ALIKE, CHANGES]:
             self.assertEqual(failures_of(FROM_HERE_ON.rstrip() + text), [])
 
     def test_a_failure_is_seen(self):

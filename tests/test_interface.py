@@ -36,6 +36,24 @@ FUNCTIONS = {
         "is_ranked(scene, wish, thing)",
         "is_trap(scene, wish, weaving, thing)",
     ],
+    "bounds": [
+        "at_most(scene, count, *, most=1000)",
+        "is_bounded(scene, count, number, thing)",
+        "is_turn(scene, count, weaving, begin, turn, rest)",
+    ],
+    "memory": ["least_once(scene, row, *, most=1000)"],
+    "alike": [
+        "deeds_of(one, other)",
+        "compare(one, other, *, most=1000)",
+        "are_pairs(one, other, thing)",
+        "least(scene, deeds, *, most=1000)",
+    ],
+    "changes": [
+        "choices(offers)",
+        "changed(scene, offers, choice)",
+        "least_change(scene, offers, promises, *, most=1000)",
+        "are_papers(scene, offers, promises, thing)",
+    ],
 }
 CLASSES = {
     "settings": {
