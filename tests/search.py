@@ -20,11 +20,14 @@ class Large(Exception):
 
 
 class Search:
-    """All reached states, each with the least of the shortest weavings to it, in the order of meeting."""
+    """All reached states, each with the least of the shortest weavings to it, in the order of meeting.
 
-    def __init__(self, oracle, deeds, limit=400):
+    There may be more states besides, reached or not, from which it goes on as well.
+    """
+
+    def __init__(self, oracle, deeds, limit=400, more=()):
         self.oracle, self.deeds = oracle, deeds
-        self.weavings = {oracle.start(): []}
+        self.weavings = {oracle.start(): []} | {state: [] for state in more}
         self.moves = {}
         waiting = collections.deque(self.weavings)
         while waiting:

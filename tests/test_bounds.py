@@ -11,7 +11,8 @@ from rowqueue.scenes import Scene
 from rowqueue.settings import Setting
 from tests.anything import THINGS
 from tests.counting import Counting
-from tests.search import gap_scenes, small_scenes, variants
+from tests.samples import state_by_lot
+from tests.search import Large, Search, gap_scenes, small_scenes, variants
 
 WORDS = ["takes", "passed", "waits", "gap"]
 ONE = [("a", 0, "here")]
@@ -238,6 +239,35 @@ class Bounded(Case):
                 self.assertIs(is_bounded(scene, count, bound, thing), wanted, (scene.setting, count, bound, thing))
         self.assertGreater(min(counts.values()), 20, counts)
 
+    def test_more_states_besides(self):
+        """States that need not be reached, with all that the deeds lead to from them, and the marks of all."""
+        chance = random.Random(78)
+        counts = {(word, wanted): 0 for word in WORDS for wanted in (True, False)}
+        higher = 0
+        for scene, search in small_scenes(62, 120, 60)[:70] + gap_scenes(75, 120)[:50]:
+            more = [state_by_lot(chance, search.oracle) for _ in range(2)]
+            try:
+                search = Search(search.oracle, search.deeds, 200, more)
+            except Large:
+                continue
+            for count in counts_of(scene):
+                counting = Counting(search, count)
+                marks = counting.marks()
+                if marks is None:
+                    continue
+                thing = list(marks.items())
+                numbers = [marks[state] for state in counting.begins() if marks[state] is not None]
+                number = max(numbers, default=None)
+                # Where counting does not begin, a mark may be greater than the number.
+                higher += any(mark is not None and (number is None or mark > number) for mark in marks.values())
+                self.assertIs(is_bounded(scene, count, number, thing), True, (scene.setting, count, thing))
+                for other in [None, 0, 1, 2, 5]:
+                    wanted = counting.is_bounded(other, thing)
+                    counts[count[0], wanted] += 1
+                    self.assertIs(is_bounded(scene, count, other, thing), wanted, (scene.setting, count, thing))
+        self.assertGreater(min(counts.values()), 10, counts)
+        self.assertGreater(higher, 10)
+
     def test_marks_where_nothing_bounds_them(self):
         """Where the number has no bound no marks show one."""
         for scene, search in small_scenes(62, 120, 60):
@@ -373,6 +403,14 @@ class Turn(Case):
         self.assertIs(is_turn(scene_of(), ("waits", 0), [], 0, [], []), False)
         self.assertIs(is_turn(scene_of(), ("waits", 0), [], 0, [("tick",)], [("part", 0)]), False)
         self.assertIs(is_turn(scene_of(), ("waits", 0), [("part", 0)], 0, [("tick",)], []), False)
+        # The row is free again behind this, but between it was not.
+        held = [("part", 0), ("tick",), ("tick",)]
+        self.assertIs(is_turn(scene_of(), ("waits", 0), [], 0, [("tick",)], held), False)
+        self.assertIs(is_turn(scene_of(), ("waits", 0), held, 0, [("tick",)], []), False)
+        self.assertIs(is_turn(scene_of(), ("waits", 0), held, 3, [("tick",)], []), True)
+        again = [*held, ("part", 1), ("tick",), ("tick",)]
+        self.assertIs(is_turn(scene_of(workers=2), ("waits", 0), again, 3, [("tick",)], []), False)
+        self.assertIs(is_turn(scene_of(workers=2), ("waits", 0), again, 6, [("tick",)], []), True)
         self.assertIs(is_turn(scene_of(), ("waits", 0), [("tick",)] * 4000, 17, [("tick",)] * 4000, []), True)
 
     def test_rests_of_gaps(self):
