@@ -274,6 +274,29 @@ class Package:
                 waiting.extend(edges.get(other, []))
         return found
 
+    def look_at_double_underscores(self, name, tree):
+        """L28, and what L5 lets an operator change: nothing that it did not create itself."""
+        methods = [part for node in ast.walk(tree) if isinstance(node, ast.ClassDef) for part in node.body]
+        for method in [part for part in methods if isinstance(part, ast.FunctionDef) and part.name.startswith("__")]:
+            returned = [part.value for part in ast.walk(method) if isinstance(part, ast.Return)]
+            if method.name == "__init__" and returned:
+                self.say("L28", name, method, "what __init__ returns")
+            if method.name in ("__len__", "__repr__", "__str__"):
+                calls = {"__len__": ["len"], "__repr__": ["str", "repr"], "__str__": ["str", "repr"]}[method.name]
+                texts = [isinstance(one, (ast.Constant, ast.JoinedStr)) for one in returned]
+                made = [self.calls_one_of(one, calls) for one in returned]
+                plain = [text or call for text, call in zip(texts, made)]
+                if not isinstance(method.body[-1], ast.Return) or not all(plain):
+                    self.say("L28", name, method, f"what {method.name} returns")
+            if method.name not in ("__init__", "__setitem__", "__call__"):
+                for part in ast.walk(method):
+                    stored = isinstance(part, ast.Attribute) and isinstance(part.ctx, ast.Store)
+                    if stored or isinstance(part, ast.AugAssign):
+                        self.say("L5", name, part, f"what {method.name} changes")
+
+    def calls_one_of(self, node, names):
+        return isinstance(node, ast.Call) and isinstance(node.func, ast.Name) and node.func.id in names
+
     def look_at_classes(self):
         for word in self.attributes:
             if word in self.own_methods:
@@ -284,6 +307,7 @@ class Package:
             if word in NOT_AS_ATTRIBUTES + METHODS and word not in ("add", "discard"):
                 self.say("L26", "package", 0, f"{word} is a method of a builtin value")
         for name, tree in self.trees.items():
+            self.look_at_double_underscores(name, tree)
             for node in ast.walk(tree):
                 if isinstance(node, ast.FunctionDef) and node.name in self.generators:
                     if not any(isinstance(part, ast.Yield) for part in ast.walk(node)):

@@ -11,20 +11,10 @@ from rowqueue.machine import play, start
 from rowqueue.scenes import Scene
 from rowqueue.settings import Setting
 from tests.anything import THINGS
-from tests.oracle import Oracle
+from tests.cases import Case, oracle_of, scene_of
 from tests.samples import ACCIDENTS, lines_by_lot, rows_by_lot
 from tests.search import Large, Search, small_scenes, variants
 from tests.test_settings import VALUES
-
-ONE = [("a", 0, "here")]
-
-
-def scene_of(*lines, rows=ONE, workers=1, may=(), prompt=False):
-    return Scene(Setting(list(lines)), list(rows), workers=workers, may=may, prompt=prompt)
-
-
-def oracle_of(scene):
-    return Oracle(scene.setting.lines(), scene.rows(), scene.workers, scene.may, scene.prompt)
 
 
 class Pairs:
@@ -103,15 +93,6 @@ def couples(seed, many, limit=250):
             continue
         found += 1
         yield one, two, pairs
-
-
-class Case(unittest.TestCase):
-    def too_many(self, most, function, *things):
-        with self.assertRaises(TooMany) as caught:
-            function(*things, most=most)
-        self.assertIs(type(caught.exception), TooMany)
-        self.assertIsInstance(caught.exception, QueueError)
-        self.assertEqual(vars(caught.exception), {"limit": most})
 
 
 class Deeds(Case):

@@ -3,7 +3,7 @@
 import copy
 import unittest
 
-from rowqueue import alike, bounds, changes, coming, forms, memory, safety
+from rowqueue import alike, bounds, chains, changes, coming, forms, lanes, memory, rounds, safety, seen
 from rowqueue.machine import start
 from rowqueue.scenes import Scene
 from rowqueue.settings import Setting
@@ -15,6 +15,8 @@ ONE = Scene(Setting(), [("a", 0, "here")])
 LOST = Scene(Setting(["hold ever"]), [("a", 0, "here")], workers=1, may=("crash",))
 OFFERS = ["once ever", "plan take effect+finish", "once 3"]
 TURN = [[], 0, [("tick",)], []]
+LOG = [("take 0",), ("effect 0",), ("finish 0",)]
+ROUND = [("part", 0), ("tick",)]
 
 
 def calls():
@@ -42,7 +44,13 @@ def calls():
     found += [(changes.choices, OFFERS), (changes.changed, ONE, OFFERS, [0, 1])]
     answer = changes.least_change(ONE, OFFERS, ["two", "twice"])
     found += [(changes.least_change, ONE, OFFERS, ["two", "twice"])]
-    return found + [(changes.are_papers, ONE, OFFERS, ["two", "twice"], answer)]
+    found += [(changes.are_papers, ONE, OFFERS, ["two", "twice"], answer)]
+    _, at, sets = seen.possible(SCENE, LOG + [("late",)])
+    found += [(seen.possible, SCENE, LOG), (seen.possible, SCENE, LOG + [("late",)]), (seen.count, SCENE, LOG, 9)]
+    found += [(seen.numbered, SCENE, LOG, 9, 1), (seen.are_sets, SCENE, LOG + [("late",)], at, sets)]
+    found += [(rounds.round_of, SCENE, start(SCENE), ROUND), (rounds.state_after, SCENE, start(SCENE), ROUND, 5)]
+    found += [(rounds.answers, SCENE, start(SCENE), ROUND, 5), (chains.ends, SCENE, [0, 1])]
+    return found + [(lanes.wait_of, [(3, 2), (1, 4)], 7), (lanes.total, [(3, 2), (1, 4)], 7)]
 
 
 def lists_in(thing):
@@ -72,7 +80,7 @@ class Arguments(unittest.TestCase):
             self.assertTrue(function(*things) == kept, function)
             if isinstance(kept, bool):
                 self.assertIs(kept, function.__name__ != "is_bad", function)
-        self.assertEqual(len(told), 23)
+        self.assertEqual(len(told), 33)
 
     def test_scenes_stay(self):
         again = Scene(Setting(["hold 1", "tries 2", "plan take effect finish follow"]), ROWS, workers=1, prompt=True)

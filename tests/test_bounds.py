@@ -5,22 +5,15 @@ import random
 import unittest
 
 from rowqueue.bounds import at_most, is_bounded, is_turn
-from rowqueue.errors import QueueError, TooMany
 from rowqueue.machine import is_state, is_weaving, start, step
-from rowqueue.scenes import Scene
-from rowqueue.settings import Setting
 from tests.anything import THINGS
+from tests.cases import Case, scene_of
 from tests.counting import Counting
 from tests.samples import state_by_lot
 from tests.search import Large, Search, gap_scenes, small_scenes, variants
 
 WORDS = ["takes", "passed", "waits", "gap"]
-ONE = [("a", 0, "here")]
 TWO = [("a", 0, "here"), ("b", 0, "here")]
-
-
-def scene_of(*lines, rows=ONE, workers=1, may=(), prompt=False):
-    return Scene(Setting(list(lines)), list(rows), workers=workers, may=may, prompt=prompt)
 
 
 def counts_of(scene):
@@ -29,15 +22,6 @@ def counts_of(scene):
 
 def same(thing, other):
     return repr(thing) == repr(other)
-
-
-class Case(unittest.TestCase):
-    def too_many(self, most, function, *things):
-        with self.assertRaises(TooMany) as caught:
-            function(*things, most=most)
-        self.assertIs(type(caught.exception), TooMany)
-        self.assertIsInstance(caught.exception, QueueError)
-        self.assertEqual(vars(caught.exception), {"limit": most})
 
 
 class AtMost(Case):

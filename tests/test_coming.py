@@ -5,19 +5,12 @@ import random
 import unittest
 
 from rowqueue.coming import can_come, is_ranked, is_trap
-from rowqueue.errors import QueueError, TooMany
 from rowqueue.machine import play, start, step
-from rowqueue.scenes import Scene
-from rowqueue.settings import Setting
 from tests.anything import THINGS
+from tests.cases import Case, scene_of
 from tests.search import QUIET, meets, small_scenes, variants
 
 WISHES = ["effect", "settled"]
-ONE = [("a", 0, "here")]
-
-
-def scene_of(*lines, rows=ONE, workers=1, may=(), prompt=False):
-    return Scene(Setting(list(lines)), list(rows), workers=workers, may=may, prompt=prompt)
 
 
 def ranks_there(search, wish):
@@ -59,15 +52,6 @@ def is_ranked_there(scene, wish, thing):
         if number != 0 and (number - 1 not in quiet or min(quiet) < number - 1):
             return False
     return True
-
-
-class Case(unittest.TestCase):
-    def too_many(self, most, function, *things):
-        with self.assertRaises(TooMany) as caught:
-            function(*things, most=most)
-        self.assertIs(type(caught.exception), TooMany)
-        self.assertIsInstance(caught.exception, QueueError)
-        self.assertEqual(vars(caught.exception), {"limit": most})
 
 
 class CanCome(Case):

@@ -1,4 +1,4 @@
-"""The examples of the document from [23] to [83], as they stand."""
+"""The examples of the document, as they stand."""
 
 import unittest
 
@@ -112,6 +112,39 @@ CHANGES = """
 [[[], [0], [1], [2], [0, 1], [1, 2]], [0]]
 """
 
+SEEN = """
+>>> from rowqueue.seen import count, numbered, possible
+>>> scene = Scene(Setting(['tries 1']), rows, workers=1)
+>>> log = [('take 0',), ('dead 0',)]
+>>> [possible(scene, log)[:2], possible(scene, [('finish 0',)])[:2]]
+[('possible', [('part', 0), ('tick',), ('tick',)]), ('impossible', 0)]
+>>> [count(scene, log, 2), count(scene, log, 3), count(scene, log, 4), numbered(scene, log, 4, 1)]
+[0, 1, 2, [('tick',), ('part', 0), ('tick',), ('tick',)]]
+"""
+
+ROUNDS = """
+>>> from rowqueue.machine import start
+>>> from rowqueue.rounds import answers, round_of
+>>> scene, turn = Scene(Setting(), rows, workers=1), [('part', 0), ('tick',), ('tick',)]
+>>> [round_of(scene, start(scene), turn), answers(scene, start(scene), turn, 9)]
+[(5, 3), [('effect 0', 3), ('stale', 3), ('take 0', 3)]]
+"""
+
+LANES = """
+>>> from rowqueue.lanes import Lane
+>>> one, other = Lane((3, 2), (1, 4)), Lane((1, 4), (3, 2))
+>>> [one, one(5), other, other(5), other.repeated(2)(5), one * other]
+[Lane(0, -2), 3, Lane(1, -2), 3, 1, Lane(1, -4)]
+"""
+
+CHAINS = """
+>>> from rowqueue.chains import Ends
+>>> [Ends([0, 1]) * Ends([1, 2]), Ends([2]) * Ends([0, 1]), Ends([0, 2]).kept(), Ends([2]) * Ends([1])]
+[Ends([0, 1, 2]), Ends([0, 1, 2]), Ends([0, 1]), Ends([2])]
+>>> [Ends([0, 1]).repeated(3), Ends([]) * Ends([1]), Ends([0]) * Ends([]), 1 in Ends([1]), True in Ends([1])]
+[Ends([0, 1]), Ends([]), Ends([0]), True, False]
+"""
+
 
 class Examples(unittest.TestCase):
     def test_settings(self):
@@ -127,8 +160,8 @@ class Examples(unittest.TestCase):
     def test_queue(self):
         self.assertEqual(failures_of(QUEUE), [])
 
-    def test_the_examples_with_one_row(self):
-        for text in [SAFETY, FORMS, COMING, BOUNDS, MEMORY, ALIKE, CHANGES]:
+    def test_the_examples_from_there_on(self):
+        for text in [SAFETY, FORMS, COMING, BOUNDS, MEMORY, ALIKE, CHANGES, SEEN, ROUNDS, LANES, CHAINS]:
             self.assertEqual(failures_of(FROM_HERE_ON.rstrip() + text), [])
 
     def test_a_failure_is_seen(self):

@@ -54,6 +54,19 @@ FUNCTIONS = {
         "least_change(scene, offers, promises, *, most=1000)",
         "are_papers(scene, offers, promises, thing)",
     ],
+    "seen": [
+        "possible(scene, log, *, most=1000)",
+        "are_sets(scene, log, at, thing)",
+        "count(scene, log, many, *, most=1000)",
+        "numbered(scene, log, many, number, *, most=1000)",
+    ],
+    "rounds": [
+        "round_of(scene, state, turn, *, most=1000)",
+        "state_after(scene, state, turn, times, *, most=1000)",
+        "answers(scene, state, turn, times, *, most=1000)",
+    ],
+    "lanes": ["wait_of(rows, number, *, initial=0)", "total(rows, times, *, initial=0)"],
+    "chains": ["ends(scene, rows, *, most=1000)"],
 }
 CLASSES = {
     "settings": {
@@ -67,12 +80,16 @@ CLASSES = {
         "Queue": ["__init__(self, setting)", "do(self, now, deeds)", "time(self)", "names(self)", "free(self, many)"]
         + ["row(self, name)", "next_time(self)", "copied(self)"],
     },
+    "lanes": {"Lane": ["__init__(self, *rows)", "__call__(self, wait)", "repeated(self, times)"]},
+    "chains": {"Ends": ["__init__(self, numbers)", "numbers(self)", "repeated(self, k)", "kept(self)"]},
 }
 METHODS = {
     "Setting": ["__eq__", "__len__", "__contains__", "__repr__", "order", "dead", "counted", "skip", "fence"]
     + ["margin", "slow", "hold", "tries", "once", "pause"],
     "Scene": ["__eq__", "setting", "workers", "may", "prompt"],
     "Queue": ["__len__", "__contains__"],
+    "Lane": ["__mul__", "__eq__", "__repr__", "__str__", "least", "drift"],
+    "Ends": ["__mul__", "__eq__", "__contains__", "__repr__"],
 }
 ERRORS = ["Wrong(place)", "BadLine(at)", "BadRow(at)", "Past(now)", "Known(name)", "NoRow(name)", "NoOrigin(name)"]
 ERRORS += ["Stale(name)", "TooMany(limit)", "NoWeaving(number)", "Stopped(at)"]

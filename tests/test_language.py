@@ -33,6 +33,7 @@ BAD = {
     "L25": {"a.py": "def f(x):\n    return x.format(1)\n"},
     "L26": {"a.py": "class A:\n    def f(self):\n        self.args = 1\n"},
     "L27": {"a.py": "NAME = '%'\n"},
+    "L28": {"a.py": "class A:\n    def __len__(self):\n        return self.n\n"},
     "unused": {"a.py": "from math import gcd\n"},
 }
 
@@ -53,6 +54,11 @@ class Language(unittest.TestCase):
             warnings.simplefilter("error")
             for path in PACKAGE.glob("*.py"):
                 compile(path.read_text(encoding="utf-8"), path.name, "exec")
+
+    def test_an_operator_that_changes_something_is_seen(self):
+        for row in ["self.n = 1", "n = 0\n        n += other"]:
+            text = f"class A:\n    def __mul__(self, other):\n        {row}\n        return self\n"
+            self.assertIn("L5", [complaint.split(" ")[0] for complaint in complaints({"a.py": text})])
 
     def test_what_breaks_a_rule_is_seen(self):
         self.assertEqual(complaints({"a.py": "def f(x):\n    return x\n"}), [])

@@ -7,16 +7,10 @@ from rowqueue.errors import QueueError, TooMany
 from rowqueue.memory import least_once
 from rowqueue.safety import reached
 from rowqueue.scenes import Scene
-from rowqueue.settings import Setting
+from tests.cases import scene_of
 from tests.counting import Counting
 from tests.samples import ACCIDENTS, lines_by_lot, rows_by_lot
 from tests.search import gap_scenes, small_scenes
-
-ONE = [("a", 0, "here")]
-
-
-def scene_of(*lines, rows=ONE, workers=1, may=(), prompt=False):
-    return Scene(Setting(list(lines)), list(rows), workers=workers, may=may, prompt=prompt)
 
 
 class LeastOnce(unittest.TestCase):

@@ -5,18 +5,18 @@ import itertools
 import random
 import unittest
 
-from rowqueue.errors import QueueError, TooMany
+from rowqueue.errors import TooMany
 from rowqueue.machine import is_state, play, start, step
 from rowqueue.safety import check, is_bad, is_breach, is_closed, reached
 from rowqueue.scenes import Scene
 from rowqueue.settings import Setting
 from tests.anything import THINGS
+from tests.cases import ONE, Case
 from tests.samples import ACCIDENTS, lines_by_lot, rows_by_lot, scene_by_lot, state_by_lot
 from tests.search import is_bad as is_bad_there
 from tests.search import small_scenes, variants
 
 PROMISES = ["twice", "two", "order", "gone"]
-ONE = [("a", 0, "here")]
 TWICE = [("part", 0), ("part", 0), ("tick",), ("tick",), ("part", 1), ("part", 1)]
 
 
@@ -26,15 +26,6 @@ def scene_of(*lines, rows=ONE, workers=2, may=(), prompt=False):
 
 def row(place, effects=0):
     return (place, 1 if place == "held" else 0, 0, effects, 0)
-
-
-class Case(unittest.TestCase):
-    def too_many(self, most, function, *things):
-        with self.assertRaises(TooMany) as caught:
-            function(*things, most=most)
-        self.assertIs(type(caught.exception), TooMany)
-        self.assertIsInstance(caught.exception, QueueError)
-        self.assertEqual(vars(caught.exception), {"limit": most})
 
 
 class Bad(Case):
