@@ -4,6 +4,7 @@ from rowqueue.bench import IDLE, free_row
 
 NONE = ("none",)
 STALE = ("stale",)
+NOTHING = ("nothing",)
 
 
 def refusal(rules, hand, point):
@@ -26,13 +27,18 @@ def do_part(bench, deed):
 def _take(bench, w):
     r = free_row(bench.scene, bench.table)
     if r is None:
-        return ("nothing",)
+        return NOTHING
+    take_row(bench, w, r)
+    return (f"take {r}",)
+
+
+def take_row(bench, w, r):
+    """Let a worker hold a row, wherever the row is."""
     bench.take_away(r, "held", bench.rules.term)
     if bench.rules.by_take:
         bench.count_try(r)
     own, lag = bench.rules.clock()
     bench.crew[w] = (1, r, True, own, lag)
-    return (f"take {r}",)
 
 
 def _go_on(bench, w):
@@ -77,7 +83,7 @@ def _follow(bench, r):
     rows = bench.scene.rows()
     coming = [s for s, row in enumerate(rows) if row[2] == r and bench.table[s][0] == "yet"]
     for s in coming:
-        bench.move(s, "ready", 0)
+        bench.take_away(s, "ready", 0)
     return tuple([f"follow {s}" for s in coming]) if coming else ("follow",)
 
 
@@ -155,7 +161,7 @@ def do_put(bench, deed):
     r = deed[1]
     if bench.scene.rows()[r][2] != "late" or bench.table[r][0] != "yet":
         return NONE
-    bench.move(r, "ready", 0)
+    bench.take_away(r, "ready", 0)
     return (f"put {r}",)
 
 

@@ -8,13 +8,18 @@ WORDS_OF_PLACES = {"yet": "away", "held": "busy", "done": "away", "dead": "dead"
 
 def free_row(scene, rows):
     """Return the row that a take takes from the rows of a state, or None."""
-    return chosen(scene.rows(), scene.setting, [_word_of(row) for row in rows])
+    return chosen(scene.rows(), scene.setting, words_of(rows))
 
 
 def is_free(scene, rows, r):
     """Return whether a row is free among the rows of a state."""
-    view = [_word_of(row) for row in rows]
+    view = words_of(rows)
     return view[r] == "free" and not is_barred(scene.rows(), scene.setting, view, r)
+
+
+def words_of(rows):
+    """Return the view of the rows of a state: one word for each."""
+    return [_word_of(row) for row in rows]
 
 
 def _word_of(row):

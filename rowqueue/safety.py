@@ -1,7 +1,7 @@
 """Promises that no reached state may break: twice, two, order and gone."""
 
 from rowqueue.machine import able, is_state, is_weaving, play, start, step
-from rowqueue.webs import Meeting, are_closed, explored
+from rowqueue.webs import are_closed, explored, searched
 
 LONGEST_BREACH = 4000
 
@@ -51,18 +51,13 @@ def reached(scene, *, most=1000):
 
 def check(scene, promise, *, most=1000):
     """Return ("holds", states) with all reached states, or ("breaks", weaving)."""
-    meeting = Meeting(start(scene), most)
-    if is_bad(scene, promise, start(scene)):
-        return ("breaks", [])
-    deeds = scene.deeds()
-    at = 0
-    while at < len(meeting.met):
-        for deed in deeds:
-            state, _ = step(scene, meeting.met[at], deed)
-            if meeting.meet(state, at, deed) and is_bad(scene, promise, state):
-                return ("breaks", meeting.weaving_to(len(meeting.met) - 1))
-        at += 1
-    return ("holds", sorted(meeting.met))
+    return searched(
+        start(scene),
+        scene.deeds(),
+        lambda state, deed: step(scene, state, deed)[0],
+        lambda state: is_bad(scene, promise, state),
+        most,
+    )
 
 
 def is_closed(scene, promise, thing):

@@ -58,6 +58,24 @@ def _move(scene, meeting, at, deed):
     return (deed, answer, meeting.number_of(state))
 
 
+def searched(first, deeds, after, is_bad, most):
+    """Return ("holds", states) with all states that deeds lead to from a first one, or ("breaks", weaving).
+
+    after(state, deed) is the state after a deed, and is_bad(state) whether a state ends the search.
+    """
+    meeting = Meeting(first, most)
+    if is_bad(first):
+        return ("breaks", [])
+    at = 0
+    while at < len(meeting.met):
+        for deed in deeds:
+            state = after(meeting.met[at], deed)
+            if meeting.meet(state, at, deed) and is_bad(state):
+                return ("breaks", meeting.weaving_to(len(meeting.met) - 1))
+        at += 1
+    return ("holds", sorted(meeting.met))
+
+
 def are_closed(scene, states, deeds):
     """Return whether the deeds lead from each of these states to one of them."""
     known = {state: True for state in states}

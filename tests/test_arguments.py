@@ -3,20 +3,24 @@
 import copy
 import unittest
 
-from rowqueue import alike, bounds, chains, changes, coming, forms, lanes, memory, rounds, safety, seen
+from rowqueue import alike, bounds, chains, changes, coming, copies, forms
+from rowqueue import lanes, memory, notation, rounds, safety, seen
 from rowqueue.machine import start
 from rowqueue.scenes import Scene
 from rowqueue.settings import Setting
 
 ROWS = [("a", 0, "here"), ("b", 0, 0)]
-SCENE = Scene(Setting(["hold 1", "tries 2", "plan take effect finish follow"]), ROWS, workers=1, prompt=True)
-OTHER = Scene(Setting(["hold 1", "tries 2", "plan take effect finish follow", "margin 1"]), ROWS, workers=1, prompt=True)
+LINES = ["hold 1", "tries 2", "plan take effect finish follow"]
+SCENE = Scene(Setting(LINES), ROWS, workers=1, prompt=True)
+OTHER = Scene(Setting(LINES + ["margin 1"]), ROWS, workers=1, prompt=True)
+PLAIN = Scene(Setting(LINES), ROWS, workers=1)
 ONE = Scene(Setting(), [("a", 0, "here")])
 LOST = Scene(Setting(["hold ever"]), [("a", 0, "here")], workers=1, may=("crash",))
 OFFERS = ["once ever", "plan take effect+finish", "once 3"]
 TURN = [[], 0, [("tick",)], []]
 LOG = [("take 0",), ("effect 0",), ("finish 0",)]
 ROUND = [("part", 0), ("tick",)]
+TRANSACTION = (7, [("take", 1), ("effect", "a")])
 
 
 def calls():
@@ -50,7 +54,13 @@ def calls():
     found += [(seen.numbered, SCENE, LOG, 9, 1), (seen.are_sets, SCENE, LOG + [("late",)], at, sets)]
     found += [(rounds.round_of, SCENE, start(SCENE), ROUND), (rounds.state_after, SCENE, start(SCENE), ROUND, 5)]
     found += [(rounds.answers, SCENE, start(SCENE), ROUND, 5), (chains.ends, SCENE, [0, 1])]
-    return found + [(lanes.wait_of, [(3, 2), (1, 4)], 7), (lanes.total, [(3, 2), (1, 4)], 7)]
+    found += [(lanes.wait_of, [(3, 2), (1, 4)], 7), (lanes.total, [(3, 2), (1, 4)], 7)]
+    found += [(look_and_mark,), (notation.show_transaction, TRANSACTION), (notation.read_transaction, "7: take 1")]
+    return found
+
+
+def look_and_mark():
+    return copies.check(copies.Reading(PLAIN, True), "gone", most=2000)
 
 
 def lists_in(thing):
@@ -80,10 +90,10 @@ class Arguments(unittest.TestCase):
             self.assertTrue(function(*things) == kept, function)
             if isinstance(kept, bool):
                 self.assertIs(kept, function.__name__ != "is_bad", function)
-        self.assertEqual(len(told), 33)
+        self.assertEqual(len(told), 36)
 
     def test_scenes_stay(self):
-        again = Scene(Setting(["hold 1", "tries 2", "plan take effect finish follow"]), ROWS, workers=1, prompt=True)
+        again = Scene(Setting(LINES), ROWS, workers=1, prompt=True)
         calls()
         self.assertTrue(SCENE == again)
         self.assertEqual(SCENE.deeds(), again.deeds())

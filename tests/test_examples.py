@@ -145,6 +145,12 @@ CHAINS = """
 [Ends([0, 1]), Ends([]), Ends([0]), True, False]
 """
 
+COPIES = """
+>>> from rowqueue.copies import Reading, check
+>>> check(Reading(Scene(Setting(['fence no']), rows), False), 'two')
+('breaks', [('part', 0), ('part', 1), ('part', 0), ('part', 1)])
+"""
+
 
 class Examples(unittest.TestCase):
     def test_settings(self):
@@ -161,7 +167,8 @@ class Examples(unittest.TestCase):
         self.assertEqual(failures_of(QUEUE), [])
 
     def test_the_examples_from_there_on(self):
-        for text in [SAFETY, FORMS, COMING, BOUNDS, MEMORY, ALIKE, CHANGES, SEEN, ROUNDS, LANES, CHAINS]:
+        later = [SAFETY, FORMS, COMING, BOUNDS, MEMORY, ALIKE, CHANGES, SEEN, ROUNDS, LANES, CHAINS, COPIES]
+        for text in later:
             self.assertEqual(failures_of(FROM_HERE_ON.rstrip() + text), [])
 
     def test_a_failure_is_seen(self):

@@ -1,13 +1,26 @@
-"""[5], [9], and the second machine: weavings that are drawn by lot, the same in each run."""
+"""[5] to [14], over the whole program, and the second machine: all is drawn by lot, the same in each run.
 
+[7] stands in test_safety.py, [8] in test_forms.py, [12] in test_chains.py and [13] in test_copies.py.
+"""
+
+import collections
 import random
 import unittest
 
+from rowqueue.alike import are_pairs, compare, deeds_of, least
+from rowqueue.bounds import at_most, is_bounded, is_turn
+from rowqueue.coming import can_come, is_ranked, is_trap
+from rowqueue.errors import TooMany
 from rowqueue.machine import able, chosen, is_state, is_weaving, play, start, step
+from rowqueue.rounds import answers, round_of, state_after
+from rowqueue.safety import check, is_breach, is_closed, reached
 from rowqueue.scenes import Scene
+from rowqueue.seen import are_sets, count, numbered, possible
 from rowqueue.settings import Setting
 from tests.samples import ACCIDENTS, deeds_by_lot, lines_by_lot, rows_by_lot, scene_by_lot, state_by_lot
+from tests.search import small_scenes
 from tests.table import Shop
+from tests.telling import changed_by_lot, log_by_lot
 
 
 class SecondMachine(unittest.TestCase):
@@ -67,6 +80,141 @@ class Times(unittest.TestCase):
             self.assertEqual(answer, shop.do(deed), (scene.setting, scene.rows(), state, deed))
             self.assertEqual(found, shop.state(), (scene.setting, scene.rows(), state, deed))
             state = found
+
+
+class OneOfBoth(unittest.TestCase):
+    """[6]."""
+
+    def test_promises(self):
+        told = collections.Counter()
+        for scene, _ in small_scenes(6, 150):
+            states = reached(scene)
+            for promise in ["twice", "two", "order", "gone"]:
+                word, paper = check(scene, promise)
+                told[promise, word] += 1
+                self.assertIs(is_closed(scene, promise, states), word == "holds")
+                if word == "holds":
+                    self.assertIs(is_closed(scene, promise, paper), True)
+                    self.assertIs(is_breach(scene, promise, paper), False)
+                else:
+                    self.assertIs(is_breach(scene, promise, paper), True)
+                    self.assertIs(is_closed(scene, promise, paper), False)
+        self.assertGreaterEqual(len(told), 7, told)
+
+    def test_wishes(self):
+        told = collections.Counter()
+        for scene, _ in small_scenes(6, 150):
+            for wish in ["effect", "settled"]:
+                word, *paper = can_come(scene, wish)
+                told[wish, word] += 1
+                if word == "holds":
+                    self.assertIs(is_ranked(scene, wish, *paper), True)
+                    for state, _ in paper[0]:
+                        self.assertIs(is_trap(scene, wish, [], [state]), False)
+                else:
+                    self.assertIs(is_trap(scene, wish, *paper), True)
+                    self.assertIs(is_ranked(scene, wish, [(state, 1) for state in paper[1]]), False)
+        self.assertEqual(len(told), 4, told)
+
+    def test_counts(self):
+        told = collections.Counter()
+        for scene, _ in small_scenes(6, 100):
+            for word in ["takes", "passed", "waits", "gap"]:
+                kind, *paper = at_most(scene, (word, 0))
+                told[kind] += 1
+                if kind == "ever":
+                    self.assertIs(is_turn(scene, (word, 0), *paper), True)
+                    continue
+                number = paper[0] if kind == "most" else None
+                self.assertIs(is_bounded(scene, (word, 0), number, paper[-1]), True)
+                if number is not None:
+                    # No lesser number can be shown, as a weaving reaches this one.
+                    lesser = number - 1 if number > 0 else None
+                    self.assertIs(is_bounded(scene, (word, 0), lesser, paper[-1]), False)
+                    for turn in [[("tick",)], [("part", 0)]]:
+                        self.assertIs(is_turn(scene, (word, 0), paper[1], paper[2], turn, []), False)
+        self.assertGreater(min(told.values()), 20, told)
+
+
+class Alike(unittest.TestCase):
+    """[10]."""
+
+    def test_scenes_with_one_other_line(self):
+        chance = random.Random(10)
+        told = collections.Counter()
+        for scene, _ in small_scenes(6, 150):
+            line = chance.choice([*lines_by_lot(chance), "dead closes", "skip no", "margin 1"])
+            setting, rows = scene.setting.changed(line), scene.rows()
+            other = Scene(setting, rows, workers=scene.workers, may=scene.may, prompt=scene.prompt)
+            deeds = deeds_of(scene, other)
+            try:
+                word, *paper = compare(scene, other, most=2000)
+                machines = [least(one, deeds, most=2000) for one in (scene, other)]
+            except TooMany:
+                continue
+            told[word] += 1
+            self.assertIs(word == "alike", machines[0] == machines[1])
+            if word == "alike":
+                self.assertIs(are_pairs(scene, other, *paper), True)
+                continue
+            weaving, last = paper
+            found = [play(one, weaving)[1] for one in (scene, other)]
+            self.assertEqual(found[0][:-1], found[1][:-1])
+            self.assertEqual((found[0][-1], found[1][-1]), last)
+            self.assertNotEqual(*last)
+        self.assertGreater(min(told.values()), 20, told)
+
+
+class Logs(unittest.TestCase):
+    """[11]."""
+
+    def test_logs(self):
+        chance = random.Random(11)
+        told = collections.Counter()
+        for scene, search in small_scenes(6, 150):
+            log = log_by_lot(chance, search, 6)
+            if log and chance.random() < 0.6:
+                log = changed_by_lot(chance, log)
+            word, *paper = possible(scene, log, most=2000)
+            told[word] += 1
+            if word == "impossible":
+                self.assertIs(are_sets(scene, log, *paper), True)
+                self.assertEqual([count(scene, log, many, most=2000) for many in (0, 7, 30)], [0, 0, 0])
+                continue
+            for at in range(len(log)):
+                before = possible(scene, log[:at], most=2000)[2]
+                self.assertIs(are_sets(scene, log, at, [before] * (at + 1)), False)
+            if len(paper[0]) <= 30:
+                numbers = [count(scene, log, many, most=2000) for many in range(len(paper[0]) + 1)]
+                self.assertEqual(sum(numbers[:-1]), 0)
+                self.assertEqual(numbered(scene, log, len(paper[0]), 0, most=2000), paper[0])
+                if numbers[-1] > 1:
+                    self.assertLess(paper[0], numbered(scene, log, len(paper[0]), 1, most=2000))
+        self.assertGreater(min(told.values()), 30, told)
+
+
+class ForEver(unittest.TestCase):
+    """[14]."""
+
+    def test_rounds(self):
+        chance = random.Random(14)
+        for _ in range(400):
+            scene, _ = scene_by_lot(chance)
+            turn = deeds_by_lot(chance, scene.deeds(), chance.choice([1, 2, 3, 7]))
+            few = chance.randint(0, 12)
+            state, told = play(scene, turn * few)
+            self.assertEqual(state_after(scene, start(scene), turn, few), state)
+            words = collections.Counter(word for answer in told for word in answer)
+            self.assertEqual(answers(scene, start(scene), turn, few), sorted(words.items()))
+            # What is added up of two parts is the whole, however long they are.
+            ahead, behind = chance.randrange(5 * 10**17), chance.choice([1, 9, chance.randrange(5 * 10**17)])
+            middle = state_after(scene, state, turn, ahead)
+            self.assertEqual(state_after(scene, state, turn, ahead + behind), state_after(scene, middle, turn, behind))
+            words = collections.Counter(dict(answers(scene, state, turn, ahead)))
+            words.update(dict(answers(scene, middle, turn, behind)))
+            self.assertEqual(answers(scene, state, turn, ahead + behind), sorted(words.items()))
+            lead, length = round_of(scene, middle, turn)
+            self.assertEqual(state_after(scene, middle, turn, lead + length), state_after(scene, middle, turn, lead))
 
 
 class Remembering(unittest.TestCase):

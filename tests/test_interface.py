@@ -67,6 +67,13 @@ FUNCTIONS = {
     ],
     "lanes": ["wait_of(rows, number, *, initial=0)", "total(rows, times, *, initial=0)"],
     "chains": ["ends(scene, rows, *, most=1000)"],
+    "copies": ["check(reading, promise, *, most=1000)"],
+    "notation": [
+        "show_transaction(transaction)",
+        "show_log(book)",
+        "read_transaction(text)",
+        "read_log(setting, text)",
+    ],
 }
 CLASSES = {
     "settings": {
@@ -82,6 +89,12 @@ CLASSES = {
     },
     "lanes": {"Lane": ["__init__(self, *rows)", "__call__(self, wait)", "repeated(self, times)"]},
     "chains": {"Ends": ["__init__(self, numbers)", "numbers(self)", "repeated(self, k)", "kept(self)"]},
+    "copies": {"Reading": ["__init__(self, scene, late)", "first(self)", "deeds(self)", "step(self, state, deed)"]},
+    "book": {
+        "Book": ["__init__(self, setting)", "do(self, now, deeds)", "late(self, now, deeds)", "back(self)"]
+        + ["again(self)", "log(self)", "queue(self)", "queue_at(self, now)", "copied(self)"],
+    },
+    "desk": {"Desk": ["__init__(self, setting)", "execute(self, line)"]},
 }
 METHODS = {
     "Setting": ["__eq__", "__len__", "__contains__", "__repr__", "order", "dead", "counted", "skip", "fence"]
@@ -90,6 +103,9 @@ METHODS = {
     "Queue": ["__len__", "__contains__"],
     "Lane": ["__mul__", "__eq__", "__repr__", "__str__", "least", "drift"],
     "Ends": ["__mul__", "__eq__", "__contains__", "__repr__"],
+    "Reading": [],
+    "Book": ["__len__", "__eq__"],
+    "Desk": [],
 }
 ERRORS = ["Wrong(place)", "BadLine(at)", "BadRow(at)", "Past(now)", "Known(name)", "NoRow(name)", "NoOrigin(name)"]
 ERRORS += ["Stale(name)", "TooMany(limit)", "NoWeaving(number)", "Stopped(at)"]
