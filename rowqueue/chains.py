@@ -56,15 +56,8 @@ class Ends:
 
     def repeated(self, k):
         """Return the product of so many of these Ends."""
-        found = Ends([1])
-        power = self
-        left = k
-        while left > 0:
-            if left & 1:
-                found = found * power
-            power = power * power
-            left = left // 2
-        return found
+        # Each of the eight sets is its own square, so it is the product of any number of itself.
+        return Ends([1]) if k == 0 else self
 
     def kept(self):
         """Return the Ends with 1 in the place of 2: those of a receiver that remembers for ever."""
@@ -83,5 +76,5 @@ def _sums(numbers, k):
         return [0]
     if k == 1:
         return list(numbers)
-    # With more than two numbers come only sums that two of them have as well.
+    # More than two of them have no sum that two of them do not have as well.
     return [min(one + other, MANY) for one in numbers for other in numbers]

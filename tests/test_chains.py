@@ -189,9 +189,13 @@ class Sets(Case):
                 # The products may be put together in any order.
                 self.assertTrue(product * one == one * product)
                 product = product * one
-            # No product of more of them is another one than that of two or three.
-            self.assertTrue(one.repeated(GREAT) == one.repeated(4))
-            self.assertTrue(one.repeated(GREAT - 1) == one.repeated(3))
+            # As many as there is no time for are put together of halves.
+            power = one
+            for _ in range(59):
+                power = power * power
+            self.assertTrue(one.repeated(2**59) == power)
+            self.assertTrue(one.repeated(GREAT) == one.repeated(GREAT // 2) * one.repeated(GREAT // 2))
+            self.assertTrue(one.repeated(GREAT) == one.repeated(GREAT - 1) * one)
             self.assertEqual(one.numbers(), numbers)
 
     def test_kept(self):
